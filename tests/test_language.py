@@ -1,0 +1,178 @@
+"""The form of the code: those rules of LANGUAGE.md that a plain look at the syntax can check."""
+
+import ast
+import builtins
+import pathlib
+import re
+import unittest
+import warnings
+
+ROOT = pathlib.Path(__file__).resolve().parent.parent
+FOLDER = ROOT / 'endclimbs'
+FILES = sorted(path for path in FOLDER.rglob('*') if '__pycache__' not in path.parts and path.is_file())
+
+BUILTINS = set('''len range enumerate zip min max sum abs sorted reversed int str bool bytes list tuple dict set
+    frozenset isinstance ord repr any all divmod pow iter next Exception ValueError TypeError KeyError IndexError
+    LookupError ZeroDivisionError ArithmeticError OverflowError RuntimeError NotImplementedError NotImplemented
+    property staticmethod classmethod'''.split())
+DUNDERS = set('''init eq repr str len enter exit call iter lt le gt ge ne add sub mul floordiv mod pow and or xor
+    lshift rshift neg pos invert abs bool contains getitem setitem'''.split())
+BARRED = re.compile(r'\b(typing|typing_extensions|enum|Enum|IntEnum|StrEnum|Flag|IntFlag|Generic|Protocol|ABC|ABCMeta'
+                    r'|namedtuple|NamedTuple|TypedDict|TYPE_CHECKING|abstractmethod|type)\b')
+UNUSED_NAMES = {'register', 'mro', 'elements', 'open', 'input', 'law', 'version_info', 'with_traceback', 'add_note',
+                'map', 'filter', 'hash', 'id', 'eval', 'exec', 'os', 'gc', 'vars', 'dir', 'help', 'exit', 'quit'}
+NODES_BARRED = (ast.Global, ast.AsyncFunctionDef, ast.Await, ast.GeneratorExp, ast.Set, ast.SetComp, ast.Lambda)
+# The package has signs of order that raise; so sorted, min and max could only take plain numbers, and are not used.
+CALLS_BARRED = {'sorted', 'min', 'max', 'getattr', 'setattr', 'hasattr', 'print'}
+
+INTERFACE = {
+    'kinds': 'is_integer is_number is_end is_ends is_row is_marks is_phase is_rule is_program is_span',
+    'errors': '''ClimbError PaperError RuleError LiveError TextError InvalidPaper NotUsable NotRising Restless
+        InvalidEvent NothingToUndo InvalidText InvalidRow''',
+    'rulechecker': 'lets_rule',
+    'rulechanges': 'with_mark without_mark with_marks shifted with_phase without_phase with_pair',
+    'endvalues': 'End Range',
+}
+
+
+def parsed(path):
+    with warnings.catch_warnings():
+        warnings.simplefilter('error')
+        source = path.read_text(encoding='utf-8')
+        compile(source, str(path), 'exec')
+        return ast.parse(source)
+
+
+def names_bound(tree):
+    """Every name that a file binds: parameters, variables, functions, classes and imports."""
+    for node in ast.walk(tree):
+        if isinstance(node, ast.arg):
+            yield node.arg
+        elif isinstance(node, ast.Name) and isinstance(node.ctx, ast.Store):
+            yield node.id
+        elif isinstance(node, (ast.FunctionDef, ast.ClassDef)):
+            yield node.name
+        elif isinstance(node, ast.alias):
+            yield node.asname or node.name
+
+
+class LanguageTest(unittest.TestCase):
+    def trees(self):
+        return [(path, parsed(path)) for path in FILES]
+
+    def test_the_folder_holds_plain_files_only(self):
+        self.assertIn('__init__.py', [path.name for path in FILES])
+        for path in FILES:
+            self.assertRegex(path.name, r'^[a-z0-9_]+\.py$')
+            self.assertEqual(path.parent, FOLDER)
+
+    def test_sizes_and_characters(self):
+        for path in FILES:
+            text = path.read_text(encoding='utf-8')
+            lines = text.split('\n')
+            self.assertLessEqual(len(lines) - 1, 399, path.name)
+            self.assertLessEqual(max(map(len, lines)), 120, path.name)
+            self.assertRegex(text, r'\A[ -~\n]*\Z', path.name)
+            self.assertNotIn('%', text, path.name)
+
+    def test_functions_are_short_and_plain(self):
+        for path, tree in self.trees():
+            for node in ast.walk(tree):
+                if isinstance(node, ast.FunctionDef):
+                    self.assertLessEqual(node.end_lineno - node.lineno + 1, 40, f'{path.name}: {node.name}')
+                    for decorator in node.decorator_list:
+                        self.assertIn(ast.unparse(decorator), ('property', 'staticmethod', 'classmethod'))
+                    defaults = node.args.defaults + [default for default in node.args.kw_defaults if default]
+                    for default in defaults:
+                        ast.literal_eval(default)
+
+    def test_imports(self):
+        for path, tree in self.trees():
+            body = [node for node in tree.body if not isinstance(node, ast.Expr)]
+            imports = [node for node in ast.walk(tree) if isinstance(node, (ast.Import, ast.ImportFrom))]
+            self.assertEqual(body[:len(imports)], imports)
+            for node in imports:
+                self.assertIsInstance(node, ast.ImportFrom)
+                self.assertEqual(node.level, 0)
+                self.assertRegex(node.module, r'^endclimbs\.[a-z]+$')
+                defined = [inner.name for inner in parsed(FOLDER / f'{node.module[10:]}.py').body
+                           if isinstance(inner, (ast.FunctionDef, ast.ClassDef))]
+                values = [target.id for inner in parsed(FOLDER / f'{node.module[10:]}.py').body
+                          if isinstance(inner, ast.Assign) for target in inner.targets]
+                for alias in node.names:
+                    self.assertIn(alias.name, defined + values)
+                    self.assertIsNone(alias.asname)
+
+    def test_imports_do_not_go_in_a_ring(self):
+        needs = {}
+        for path, tree in self.trees():
+            needs[path.stem] = {node.module[10:] for node in tree.body if isinstance(node, ast.ImportFrom)}
+        while needs:
+            free = [name for name in needs if not needs[name] & set(needs)]
+            self.assertTrue(free, f'a ring among {sorted(needs)}')
+            for name in free:
+                del needs[name]
+
+    def test_module_level(self):
+        for path, tree in self.trees():
+            for node in tree.body:
+                if isinstance(node, ast.Assign):
+                    self.assertEqual(len(node.targets), 1)
+                    ast.literal_eval(node.value)
+                elif isinstance(node, ast.Expr):
+                    self.assertIsInstance(node.value, ast.Constant)
+                else:
+                    self.assertIsInstance(node, (ast.ImportFrom, ast.FunctionDef, ast.ClassDef))
+
+    def test_names(self):
+        for path, tree in self.trees():
+            imported = [alias.name for node in tree.body if isinstance(node, ast.ImportFrom) for alias in node.names]
+            functions = [node.name for node in tree.body if isinstance(node, (ast.FunctionDef, ast.ClassDef))]
+            self.assertEqual(len(set(imported + functions)), len(imported + functions))
+            for name in names_bound(tree):
+                self.assertNotIn(name, UNUSED_NAMES)
+                if name.startswith('__'):
+                    self.assertIn(name.strip('_'), DUNDERS)
+                elif name != '_':
+                    self.assertFalse(hasattr(builtins, name), f'{path.name}: {name}')
+            for node in ast.walk(tree):
+                if isinstance(node, ast.arg) or (isinstance(node, ast.Name) and isinstance(node.ctx, ast.Store)):
+                    name = node.arg if isinstance(node, ast.arg) else node.id
+                    self.assertNotIn(name, imported, path.name)
+
+    def test_only_the_builtins_of_the_subset(self):
+        for path, tree in self.trees():
+            known = set(names_bound(tree)) | BUILTINS
+            for node in ast.walk(tree):
+                if isinstance(node, ast.Name):
+                    self.assertIn(node.id, known)
+                    self.assertNotIn(node.id, CALLS_BARRED)
+
+    def test_expressions(self):
+        for path, tree in self.trees():
+            for node in ast.walk(tree):
+                self.assertNotIsInstance(node, NODES_BARRED)
+                self.assertNotIsInstance(node, ast.Div)
+                if isinstance(node, ast.Constant):
+                    self.assertNotIsInstance(node.value, (float, complex))
+                if isinstance(node, ast.Compare) and isinstance(node.ops[0], (ast.Is, ast.IsNot)):
+                    self.assertIn(ast.unparse(node.comparators[0]), ('None', 'True', 'False'))
+
+    def test_words_that_do_not_occur(self):
+        for path, tree in self.trees():
+            for node in ast.walk(tree):
+                if isinstance(node, (ast.Name, ast.Attribute)):
+                    self.assertNotRegex(node.id if isinstance(node, ast.Name) else node.attr, BARRED)
+                    if isinstance(node, ast.Attribute):
+                        self.assertNotIn(node.attr, UNUSED_NAMES)
+
+    def test_the_interface_is_defined_where_it_is_listed(self):
+        for module, names in INTERFACE.items():
+            tree = parsed(FOLDER / f'{module}.py')
+            defined = [node.name for node in tree.body if isinstance(node, (ast.FunctionDef, ast.ClassDef))]
+            for name in names.split():
+                self.assertIn(name, defined)
+
+
+if __name__ == '__main__':
+    unittest.main()
