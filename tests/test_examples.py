@@ -29,6 +29,37 @@ EXAMPLES = r"""
 
     >>> [str(Range(None, 5) & Range(2, None)), str(Range(1, 2) | Range(5, 6)), str(-Range(None, 5)), str(Range(1, 2) + Range(5, None))]
     ['2..5', '1..6', '-5..-', '6..-']
+
+    >>> from endclimbs.rulereadings import ends_read, rule_read
+    >>> from endclimbs.ruletexts import ends_text, rule_text
+    >>> [rule_text(CAREFUL), ends_text((0, -5, None)), ends_read('7 -'), rule_read(rule_text(TENS)) == TENS]
+    ['marks 5\nphase take 1 take 0 out 0\nphase out 1 take 0 out 0', '0 -5 -', (7, None), True]
+    >>> rule_read('marks 3 3\nphase take 0 take 0 out 0')
+    raises InvalidText(line=0, field=2)
+
+    >>> from endclimbs.rules import Delayed, Plain, Rule
+    >>> [Rule.of(CAREFUL)((0, 1, 2)), Plain((5,), 'next', 'take', 'out') == Rule.of(JUMPY)]
+    [(0, 1, None), True]
+    >>> late = Delayed((5,), 1, 'next', 'take', 'out')
+    >>> [late[0], late((0, 1, 2)), late.delay, len(late)]
+    [(('take', 1), ('take', 1), ('take', 1)), (0, 1, 5), 1, 2]
+    >>> Rule.of(JUMPY)((0, 4, 3))
+    raises NotRising(index=2)
+
+    >>> from endclimbs.casing import case_of, gap_of, room_of, upper_mark
+    >>> [gap_of((5, 9), 5), upper_mark((5, 9), 5), room_of((5, 9), 5), room_of((5, 9), 9)]
+    [1, 9, 3, None]
+    >>> [case_of((5, 9), 3, y) for y in (3, 4, 5, 6, None)] + [case_of((5, 9), 9, None)]
+    [None, 'near', 'at', 'far', 'far', 'far']
+
+    >>> from endclimbs.climbing import ends_of, moved, rounds_of, settled_end, state_of, states_of_row
+    >>> WAITER = ((10,), ((('wait', 1), ('out', 0), ('out', 0)), (('out', 0), ('wait', 1), ('out', 0))))
+    >>> [list(ends_of(CAREFUL, (0, 1, 2))), states_of_row(CAREFUL, (0, 1, 2))]
+    [[0, 1, None], ((0, 0, 0), (1, 1, 1), (1, None, None))]
+    >>> [rounds_of(JUMPY, (0, 1, 2)), state_of(WAITER, (0, 5)), moved(WAITER, (1, 0, 5), 10), settled_end(WAITER, (0, 5))]
+    [((1, 'near', 'next'),), (1, 0, 5), (1, 0, 10), None]
+    >>> settled_end(WAITER, (0, 5, 10))
+    raises Restless(rounds=2)
 """
 
 

@@ -32,6 +32,11 @@ INTERFACE = {
     'rulechecker': 'lets_rule',
     'rulechanges': 'with_mark without_mark with_marks shifted with_phase without_phase with_pair',
     'endvalues': 'End Range',
+    'rulereadings': 'rule_read ends_read',
+    'ruletexts': 'rule_text ends_text',
+    'rules': 'Rule Plain Delayed',
+    'casing': 'gap_of upper_mark room_of case_of',
+    'climbing': 'moved ends_of states_of_row state_of rounds_of settled_end',
 }
 
 
