@@ -98,14 +98,21 @@ def rounds_of(rule, row):
     return tuple(rounds)
 
 
+def settling(rule, state):
+    """The states from this one on, while what waits comes in again and again, until the end waits no more.
+
+    The last one of them still waits if it does for ever.
+    """
+    states = [state]
+    # The case stays while the end waits, so waits of as many rounds as phases repeat a phase.
+    while waits(states[-1]) and len(states) <= len(rule[1]):
+        states.append(state_behind(rule, states[-1], states[-1][2]))
+    return states
+
+
 def settled_end(rule, row):
     """The end at which the rule comes to rest if the last element of a row comes in again and again."""
-    state = state_of(rule, row)
-    many = len(rule[1])
-    # The case stays while the end waits, so waits of as many rounds as phases repeat a phase.
-    for _ in range(many):
-        if waits(state):
-            state = state_behind(rule, state, row[-1])
+    state = settling(rule, state_of(rule, row))[-1]
     if waits(state):
-        raise Restless(many)
+        raise Restless(len(rule[1]))
     return state[1]

@@ -4,12 +4,17 @@ from endclimbs.errors import require
 from endclimbs.kinds import CASES, has_nexts_below, is_case, is_index, is_integer, is_marks, is_move, is_phase
 
 
+def marks_with(marks, mark):
+    """The marks with this one, which is none of them, at its place."""
+    below = tuple([old for old in marks if old < mark])
+    return below + (mark,) + marks[len(below):]
+
+
 def with_mark(rule, mark):
     """The rule with this mark, too."""
     marks, phases = rule
     require(is_integer(mark) and mark not in marks, "mark")
-    below = tuple([old for old in marks if old < mark])
-    return below + (mark,) + marks[len(below):], phases
+    return marks_with(marks, mark), phases
 
 
 def without_mark(rule, mark):

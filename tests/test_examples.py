@@ -60,6 +60,42 @@ EXAMPLES = r"""
     [((1, 'near', 'next'),), (1, 0, 5), (1, 0, 10), None]
     >>> settled_end(WAITER, (0, 5, 10))
     raises Restless(rounds=2)
+
+    >>> from endclimbs.resting import rests, rests_from, rests_on_steps, ring_of
+    >>> from endclimbs.spots import spots_of, steady_spots
+    >>> spots_of(WAITER)
+    (((0, 0, 'near'), None), ((0, 1, 'near'), None), ((1, 0, 'at'), None), ((1, 0, 'near'), None), ((1, 1, 'near'), None))
+    >>> [steady_spots(WAITER), spots_of(((5, 9), ((('take', 0), ('out', 0), ('out', 0)),)))]
+    [(((0, 0, 'near'), None), ((0, 1, 'near'), None)), (((0, 0, 'near'), None), ((0, 1, 'near'), 3), ((0, 2, 'near'), None))]
+    >>> [(rests(rule), rests_on_steps(rule)) for rule in (CAREFUL, JUMPY, TENS, WAITER)]
+    [(True, True), (True, True), (False, False), (False, True)]
+    >>> [ring_of(JUMPY), ring_of(WAITER)[1][0]]
+    [None, 10]
+    >>> [rests_from(TENS, 0), rests_from(TENS, 10)]
+    [True, False]
+
+    >>> from endclimbs.restchecker import lets_rest
+    >>> lets_rest(JUMPY, ('rests', (((0, 0, 'near'), None), ((0, 1, 'near'), None))))
+    True
+    >>> lets_rest(WAITER, ('rings', (0, 5, 10), (10,)))
+    False
+    >>> lets_rest(TENS, ('rings', (9,), (10,)))
+    raises InvalidPaper(word='phase', at=-1)
+
+    >>> from endclimbs.stepping import end_on, incoming, played, program_of, restless_program
+    >>> STEPS = (((None, 0), (0, 5), (3, 7)), 0)
+    >>> [incoming(STEPS, 2), incoming((((None, 0),), 1), 4), played(JUMPY, STEPS), end_on(JUMPY, STEPS), end_on(CAREFUL, STEPS)]
+    [5, 5, (0, 5, 7), None, 7]
+    >>> [played(CAREFUL, program_of(CAREFUL, (0, 1, 1, 2))), restless_program(WAITER)]
+    [(0, 1, 2), None]
+    >>> played(TENS, (((None, 10),), 1), most=20)
+    raises Restless(rounds=20)
+
+    >>> from endclimbs.rounds import greatest_rounds, longest_row, most_rounds
+    >>> [most_rounds(TENS, 0), most_rounds(TENS, 10), most_rounds(CAREFUL, 0), most_rounds(((10 ** 30,), TENS[1]), 0) - 10 ** 30]
+    [11, None, 4, 1]
+    >>> [len(longest_row(CAREFUL, 0)), longest_row(TENS, 10), greatest_rounds(CAREFUL), greatest_rounds(TENS), greatest_rounds(JUMPY)]
+    [5, None, 4, None, 2]
 """
 
 

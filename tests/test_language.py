@@ -37,6 +37,12 @@ INTERFACE = {
     'rules': 'Rule Plain Delayed',
     'casing': 'gap_of upper_mark room_of case_of',
     'climbing': 'moved ends_of states_of_row state_of rounds_of settled_end',
+    'spots': 'spots_of steady_spots',
+    'resting': 'rests rests_from rests_on_steps ring_of rest_paper',
+    'restchecker': 'lets_rest',
+    'stepping': 'incoming played end_on program_of restless_program',
+    'rounds': 'most_rounds longest_row greatest_rounds',
+    'programs': 'is_range is_step lets_names incoming_ranges',
 }
 
 
