@@ -96,6 +96,40 @@ EXAMPLES = r"""
     [11, None, 4, 1]
     >>> [len(longest_row(CAREFUL, 0)), longest_row(TENS, 10), greatest_rounds(CAREFUL), greatest_rounds(TENS), greatest_rounds(JUMPY)]
     [5, None, 4, None, 2]
+
+    >>> from endclimbs.excesses import excess_row, greatest_excess, inexact_row, is_exact
+    >>> [is_exact(TENS, (0, 10)), is_exact(TENS, (0, 11)), inexact_row(TENS, (0, 11)), greatest_excess(TENS, (0, 11))]
+    [True, False, (0, 11), None]
+    >>> [greatest_excess(JUMPY, (0, 4)), excess_row(JUMPY, (0, 4)), excess_row(TENS, (0, 10)), inexact_row(TENS, (0, 10))]
+    [4, (0, 1), (0,), None]
+
+    >>> from endclimbs.backing import back_move, is_safe, narrowed, unsafe_program
+    >>> [back_move((5,), (1, 'next', 'keep', 'down'), None, 3), back_move((5,), (1, 'next', 'keep', 'down'), 7, 3), back_move((5,), (1, 'take', 'next', 'down'), 3, 1), back_move((5,), (1, 'down', 'keep', 'keep'), None, 7)]
+    [5, 5, 3, 5]
+    >>> WIDE, FALLS = ((0, 3), ((('out', 0),) * 3,)), ((None, 0), (0, 2), (4, 3))
+    >>> [narrowed(WIDE, (FALLS, 0), (many, 'take', 'down', 'keep')) for many in (0, 1, 2)]
+    [None, 3, 0]
+    >>> [is_safe(WIDE, (1, 'take', 'down', 'keep'), (0, 4)), is_safe(WIDE, (2, 'take', 'down', 'keep'), (0, 4)), unsafe_program(WIDE, (2, 'take', 'next', 'keep'), (0, 4))]
+    [True, False, None]
+
+    >>> from endclimbs.choosing import delayed, fitting_delays, least_marks
+    >>> TWO = ((5, 10), TENS[1])
+    >>> [most_rounds(TWO, 0), least_marks(TWO, 0, 6), least_marks(TWO, 0, 11) in ((5,), (10,)), least_marks(TWO, 0, 5)]
+    [6, (5,), True, None]
+    >>> [fitting_delays(JUMPY, 0, 3), delayed(JUMPY, 1)[1], most_rounds(delayed(JUMPY, 1), 0)]
+    [(0, 1), ((('take', 1), ('take', 1), ('take', 1)), (('next', 1), ('take', 1), ('out', 1))), 3]
+
+    >>> from endclimbs.joint import joint_states
+    >>> joint_states(CAREFUL, JUMPY, (0, 1))
+    (((0, 0, 0), (0, 0, 0)), ((1, 1, 1), (0, 5, 5)))
+
+    >>> from endclimbs.alikeness import are_alike, parting_row
+    >>> LEAPING = ((5,), ((('next', 0), ('next', 0), ('out', 0)),))
+    >>> [are_alike(JUMPY, LEAPING), len(parting_row(CAREFUL, JUMPY)), parting_row(TENS, TENS)]
+    [True, 2, None]
+    >>> FAR = ((5, 10 ** 40), ((('take', 0), ('take', 0), ('take', 0)),))
+    >>> are_alike(FAR, ((), ((('take', 0), ('take', 0), ('take', 0)),)))
+    True
 """
 
 

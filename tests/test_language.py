@@ -43,6 +43,11 @@ INTERFACE = {
     'stepping': 'incoming played end_on program_of restless_program',
     'rounds': 'most_rounds longest_row greatest_rounds',
     'programs': 'is_range is_step lets_names incoming_ranges',
+    'excesses': 'is_exact inexact_row greatest_excess excess_row',
+    'backing': 'is_back back_move narrowed is_safe unsafe_program',
+    'choosing': 'least_marks delayed fitting_delays',
+    'joint': 'joint_states',
+    'alikeness': 'are_alike parting_row',
 }
 
 
