@@ -3,7 +3,7 @@
 from endclimbs.casing import mark_above
 from endclimbs.climbing import rounds_of, states_of_row
 from endclimbs.errors import InvalidPaper
-from endclimbs.kinds import CASES, is_case, is_ends, is_filled_tuple, is_index, is_integer, is_less, is_number
+from endclimbs.kinds import CASES, is_case, is_filled_tuple, is_index, is_integer, is_less, is_number
 from endclimbs.kinds import is_row, is_tuple_of
 from endclimbs.rings import climbs_on, waits_on
 
@@ -12,7 +12,7 @@ def is_ring_paper(thing):
     """Whether it is by form a paper that a rule does not rest."""
     if not is_tuple_of(thing, 3) or thing[0] != "rings" or not is_row(thing[1]):
         return False
-    return is_filled_tuple(thing[2]) and is_ends(thing[2]) and is_row(thing[1] + thing[2])
+    return is_filled_tuple(thing[2]) and is_row(thing[1] + thing[2])
 
 
 def is_spot(rule, thing):

@@ -194,6 +194,17 @@ class FarTest(AlikeCase):
             if top < 5:
                 self.assertEqual(all_rows_part(rule, other, window((0, top), 9)), due or None)
 
+    def test_long_climbs_in_the_lowest_gap(self):
+        # Behind so many near takes, all below the one mark, the mark comes in.
+        for many in (3, 6, 30):
+            climbs = tuple((('take', k + 1), OUT, OUT) for k in range(many))
+            for mark in (5, FAR):
+                self.judge(((mark,), climbs + ((OUT, OUT, OUT),)), ((mark,), climbs + ((OUT, TAKE, OUT),)), many + 2)
+                takes = tuple((('take', min(k + 1, many)),) + (('take', k),) * 2 for k in range(many + 1))
+                last = takes[:many] + ((takes[many][0], ('out', 0), takes[many][2]),)
+                self.judge(((mark,), takes), ((mark,), ((TAKE,) * 3,)), 0)
+                self.judge(((mark,), last), ((mark,), ((TAKE,) * 3,)), many + 2)
+
     def test_unlike_behind_an_endless_element(self):
         rule = ((5,), ((TAKE, TAKE, ('wait', 1)), (OUT, OUT, OUT)))
         other = ((5,), ((TAKE, TAKE, ('wait', 1)), (OUT, OUT, ('wait', 1))))

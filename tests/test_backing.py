@@ -7,6 +7,7 @@ import unittest
 from endclimbs.backing import back_move, is_back, is_safe, narrowed, unsafe_program
 from endclimbs.errors import NotUsable, Restless
 from endclimbs.kinds import is_program
+from endclimbs.spans import programs_in
 from playing import big
 from samples import CAREFUL, JUMPY, ODD, RULES, TENS, WAITER, Case
 from searching import bent_rules, made_programs, slow_incoming, slow_playing
@@ -167,6 +168,21 @@ class NarrowedTest(Case):
             self.fails(Restless, (200,), narrowed, TENS, (((None, 10),), 1), back)
             self.fails(Restless, (200,), narrowed, STAYS, (((None, 0), (0, 3)), 0), back)
         self.same(narrowed(rule=WIDE, program=(FALLS, 0), back=(1, 'take', 'down', 'keep')), 3)
+
+
+class ProgramsTest(Case):
+    def test_each_way_in_which_things_can_come_in(self):
+        for span in ((0, 0), (0, 2), (3, 5), (-5, -2), (-1, 3), (FAR, FAR + 2)):
+            ends = range(span[0] - 1, span[1] + 2)
+            found = []
+            for program in programs_in(span):
+                self.assertTrue(is_program(program) and program[1] == 0)
+                integers = [c for c, _ in program[0][1:]] + [d for _, d in program[0]]
+                self.assertTrue(all(span[0] <= integer <= span[1] for integer in integers))
+                found.append(tuple(slow_incoming(program, end) for end in ends))
+            self.assertEqual(len(set(found)), len(found))
+            self.assertEqual(set(found), {tuple(slow_incoming(program, end) for end in ends)
+                                          for program in programs_of(span)})
 
 
 class SafeTest(Case):

@@ -50,6 +50,17 @@ INTERFACE = {
     'alikeness': 'are_alike parting_row',
 }
 
+# The parameters of the functions of stages 6 to 14 and 17, as the document writes them.
+PARAMETERS = '''spots_of(rule) steady_spots(rule) rests(rule) rests_from(rule, first) rests_on_steps(rule) ring_of(rule)
+    rest_paper(rule) lets_rest(rule, thing) incoming(program, x) played(rule, program, *, most=200)
+    end_on(rule, program, *, most=200) program_of(rule, row) restless_program(rule) most_rounds(rule, first)
+    longest_row(rule, first) greatest_rounds(rule) is_exact(rule, span) inexact_row(rule, span)
+    greatest_excess(rule, span) excess_row(rule, span) is_back(thing) back_move(marks, back, x, y)
+    narrowed(rule, program, back) is_safe(rule, back, span) unsafe_program(rule, back, span)
+    least_marks(rule, first, most) delayed(rule, count) fitting_delays(rule, first, most)
+    joint_states(rule, other, span) are_alike(rule, other) parting_row(rule, other) is_range(thing) is_step(thing)
+    lets_names(thing) incoming_ranges(program, ranges, name)'''
+
 
 def parsed(path):
     with warnings.catch_warnings():
@@ -188,6 +199,17 @@ class LanguageTest(unittest.TestCase):
             defined = [node.name for node in tree.body if isinstance(node, (ast.FunctionDef, ast.ClassDef))]
             for name in names.split():
                 self.assertIn(name, defined)
+
+    def test_the_parameters_are_those_of_the_interface(self):
+        found = {}
+        for names in INTERFACE:
+            for node in parsed(FOLDER / f'{names}.py').body:
+                if isinstance(node, ast.FunctionDef):
+                    found[node.name] = ast.unparse(node.args)
+        due = re.findall(r'(\w+)\(([^)]*)\)', PARAMETERS)
+        self.assertEqual(len(due), 35)
+        for name, parameters in due:
+            self.assertEqual(found[name], parameters)
 
 
 if __name__ == '__main__':

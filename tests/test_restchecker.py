@@ -167,8 +167,11 @@ class RingsTest(CheckerCase):
         # Below the mark, waits have to be equal.
         for row, more in (((0,), (3, 4)), ((0,), (3, 5)), ((9,), (10, None))):
             self.complains('ring', -1, stays, ('rings', row, more))
-        # The end behind the row has to be in the outer gap, too.
+        # The end behind the row has to be in the outer gap, too, whatever waits there.
         self.complains('ring', -1, ((5,), ((('take', 0),) * 3,)), ('rings', (4,), (6,)))
+        late = ((5,), ((OUT, OUT, ('wait', 1)), (OUT, OUT, ('take', 1))))
+        self.same(states_by_words(late, (0, 7, 7)), ((0, 0, 0), (1, 0, 7), (1, 7, 7)))
+        self.complains('ring', -1, late, ('rings', (0, 7), (7,)))
 
     def test_two_faults(self):
         two = ((5,), ((('take', 1), ('out', 1), OUT), (('take', 0), OUT, OUT)))

@@ -83,6 +83,20 @@ class RestTest(Case):
             self.same([rests((marks, climbs)), rests_on_steps((marks, climbs))], [False, False])
             self.same([rests((marks, climbs[:2] + ((('next', 1), OUT, OUT),)))], [True])
 
+    def test_long_ways_to_a_ring(self):
+        for many in (3, 6, 30):
+            for case in range(3):
+                # So many near takes lead to the phase from which so many waits lead to the ring.
+                climbs = tuple((('take', k + 1), OUT, OUT) for k in range(many))
+                waits = tuple(tuple(('wait', k + 1) if place == case else OUT for place in range(3))
+                              for k in range(many, 2 * many))
+                ring = tuple(('wait', 2 * many) if place == case else OUT for place in range(3))
+                rule = ((5,), climbs + waits + (ring,))
+                self.same([rests(rule), rests_on_steps(rule), lets_rest(rule, rest_paper(rule))], [False] * 3)
+                self.same([rests_from(rule, 4 - many - 1), rests_from(rule, 4)], [False, True])
+                broken = ((5,), climbs + waits + (REST,))
+                self.same([rests(broken), rests_on_steps(broken), lets_rest(broken, rest_paper(broken))], [True] * 3)
+
     def test_a_near_wait_needs_room(self):
         # From a mark on without room, near does not come; the phase behind the mark waits for ever elsewhere.
         phases = ((OUT, ('take', 1), OUT), (('wait', 1), OUT, OUT))

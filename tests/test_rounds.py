@@ -1,5 +1,6 @@
 """[34] and [35] The greatest numbers of rounds, and rows that have them."""
 
+import itertools
 import unittest
 
 from endclimbs.climbing import rounds_of
@@ -92,6 +93,20 @@ class MostRoundsTest(RoundsCase):
                 for turns in (1, 7, 10 ** 20):
                     wide = ((0, 20 + 12 * turns), rule[1])
                     self.same(most_rounds(wide, 19 - room), small[room] + slope * turns)
+
+    def test_a_ring_of_which_only_one_phase_leads_far(self):
+        behind = tuple((('take', k + 1), OUT, OUT) for k in range(3, 7)) + (REST,)
+        for moves in itertools.product(('take', 'wait'), repeat=3):
+            takes = moves.count('take')
+            for far in range(3):
+                ring = tuple(((moves[k], (k + 1) % 3), ('take', 3) if k == far else OUT, OUT) for k in range(3))
+                rule = ((0, 20), ring + behind)
+                small = [most_rounds(rule, 19 - room) for room in range(20)]
+                self.same(small, rounds_from(rule, tuple(range(19, -1, -1))))
+                for room in range(14, 20):
+                    # Each time round the ring of three phases needs as many integers as it has takes.
+                    wide = most_rounds(((0, FAR), rule[1]), FAR - 1 - takes * 10 ** 20 - room)
+                    self.same(wide, small[room] + 3 * 10 ** 20 if takes else None)
 
     def test_waits_that_never_end_have_no_number(self):
         for case in range(3):

@@ -61,6 +61,15 @@ class SpotsTest(Case):
         far = ((-FAR, 0, FAR), ((OUT, OUT, ('take', 1)), (OUT, OUT, OUT)))
         self.same([dict(spots_of(far))[(1, gap, 'near')] for gap in (1, 2, 3)], [FAR - 2, FAR - 1, None])
 
+    def test_long_climbs_in_the_lowest_gap(self):
+        for many in (3, 6, 30):
+            phases = tuple((('take', k + 1), OUT, OUT) for k in range(many)) + ((OUT, ('take', 0), OUT),)
+            found = dict(spots_of(((5,), phases)))
+            self.same([found[(k, 0, 'near')] for k in range(many + 1)], [None] * (many + 1))
+            self.same(spots_of(((5,), phases)), steady_spots(((5,), phases)))
+            if many < 7:
+                self.compare([((5,), phases), ((0, 9), phases)])
+
     def test_waits_at_each_case(self):
         for case, floor in enumerate(('near', 'at', 'far')):
             pairs = [OUT, OUT, OUT]

@@ -213,6 +213,9 @@ class RestlessProgramTest(Case):
                 self.judge((marks, (tuple(('wait', 0) if k == case else OUT for k in range(3)),)))
         # The ring behind the mark needs what waits to come in again, and plus to go on.
         self.judge(((5,), ((OUT, ('take', 1), OUT), (('wait', 2), OUT, OUT), (('take', 1), OUT, OUT))))
+        # The way to the ring takes the very integers 1 and 2, and 2 comes in at 1 as the mark above it.
+        narrow = ((0, 2), ((OUT, ('take', 1), OUT), (('take', 2), OUT, OUT), (OUT, ('take', 3), OUT), (('take', 3), OUT, OUT)))
+        self.judge(narrow)
         self.same(restless_program(rule=JUMPY), None)
 
 
