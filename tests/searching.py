@@ -1,5 +1,6 @@
 """Slow searches by the words of [3] to [9], over all rows of a small window around the marks."""
 
+import itertools
 import random
 
 from playing import CASES, MOVES, big, case_by_words, round_by_words
@@ -148,3 +149,12 @@ def made_programs(many, seed=4, places=range(-2, 12), pairs=6, plus=3):
         cs = sorted(source.sample(places, count - 1))
         ds = sorted(source.choices(places, k=count))
         yield tuple(zip([None] + cs, ds)), source.choice((0, source.randint(1, plus)))
+
+
+def programs_of(span):
+    """All step programs that lie in a span."""
+    ints = range(span[0], span[1] + 1)
+    for many in range(len(ints) + 1):
+        for cs in itertools.combinations(ints, many):
+            for ds in itertools.combinations_with_replacement(ints, many + 1):
+                yield tuple(zip((None,) + cs, ds)), 0

@@ -10,7 +10,7 @@ from endclimbs.kinds import is_program
 from endclimbs.spans import programs_in
 from playing import big
 from samples import CAREFUL, JUMPY, ODD, RULES, TENS, WAITER, Case
-from searching import bent_rules, made_programs, slow_incoming, slow_playing
+from searching import bent_rules, made_programs, programs_of, slow_incoming, slow_playing
 
 FAR = 10 ** 40
 MOVES = ('keep', 'take', 'next', 'down')
@@ -45,15 +45,6 @@ def slow_narrowed(rule, program, back):
     for _ in range(back[0]):
         end = slow_back(rule[0], back, end, slow_incoming(program, end))
     return end
-
-
-def programs_of(span):
-    """All step programs that lie in a span."""
-    ints = range(span[0], span[1] + 1)
-    for many in range(len(ints) + 1):
-        for cs in itertools.combinations(ints, many):
-            for ds in itertools.combinations_with_replacement(ints, many + 1):
-                yield tuple(zip((None,) + cs, ds)), 0
 
 
 def shows(rule, back, program):
