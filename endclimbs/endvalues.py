@@ -2,7 +2,7 @@
 
 from endclimbs.errors import InvalidText, NotUsable, require
 from endclimbs.kinds import is_end, is_integer, is_less
-from endclimbs.words import end_of_word, end_word, is_end_word
+from endclimbs.words import end_of_word, end_word, is_end_word, range_word
 
 
 def sum_of_ends(end, other):
@@ -150,4 +150,4 @@ class Range:
         return Range(minus(self._high), minus(self._low))
 
     def __str__(self):
-        return f"{end_word(self._low)}..{end_word(self._high)}"
+        return f"{range_word((self._low, self._high))}"

@@ -1,4 +1,4 @@
-"""Words of texts: how integers and ends are written, and which words write some."""
+"""Words of texts: how integers, ends and ranges are written, and which words write some."""
 
 DIGITS = 60
 
@@ -6,6 +6,11 @@ DIGITS = 60
 def end_word(end):
     """The word that writes an end."""
     return "-" if end is None else f"{end}"
+
+
+def range_word(held):
+    """The word that writes a range, a pair of its ends, or none if it is None."""
+    return "none" if held is None else f"{end_word(held[0])}..{end_word(held[1])}"
 
 
 def is_number_word(word):

@@ -130,6 +130,43 @@ EXAMPLES = r"""
     >>> FAR = ((5, 10 ** 40), ((('take', 0), ('take', 0), ('take', 0)),))
     >>> are_alike(FAR, ((), ((('take', 0), ('take', 0), ('take', 0)),)))
     True
+
+    >>> from endclimbs.overtaking import above_row, never_above
+    >>> [never_above(CAREFUL, JUMPY, (0, 1)), above_row(CAREFUL, JUMPY, (0, 2)), above_row(JUMPY, CAREFUL, (0, 2))[0]]
+    [True, (0, 1, 2), 0]
+
+    >>> from endclimbs.overchecker import lets_above
+    >>> [lets_above(CAREFUL, JUMPY, (0, 2), ('above', (0, 1, 2))), lets_above(JUMPY, JUMPY, (9, 9), ('never', (((0, 9, 9), (0, 9, 9)),)))]
+    [False, True]
+    >>> lets_above(CAREFUL, JUMPY, (0, 1), ('never', (((0, 0, 0), (0, 0, 0)),)))
+    raises InvalidPaper(word='next', at=(0, 1))
+
+    >>> from endclimbs.onsteps import above_program, never_above_on_steps
+    >>> [never_above_on_steps(CAREFUL, JUMPY, (0, 1)), never_above_on_steps(CAREFUL, JUMPY, (0, 2))]
+    [True, False]
+
+    >>> ONE = ((2, 4), ((("take", 1), ("take", 1), ("take", 2)), (("next", 1), ("take", 1), ("take", 2)), (("out", 2),) * 3))
+    >>> TWO = ((2, 4), ((("next", 1), ("take", 1), ("out", 1)), (("out", 1), ("take", 1), ("take", 1))))
+    >>> [never_above(ONE, TWO, (0, 5)), never_above_on_steps(ONE, TWO, (0, 5))]
+    [True, False]
+
+    >>> from endclimbs.duels import Duel
+    >>> duel = Duel(CAREFUL, JUMPY)
+    >>> [duel.likeness, duel((0, 1, 2)), (0, 1) in duel, (0, 5) in duel, duel.turned() == duel]
+    [False, ((0, 1, None), (0, 5, 5)), True, False, False]
+
+    >>> from endclimbs.analyses import analysed, walks_of
+    >>> LATER = ((), ((('take', 1), ('take', 1), ('out', 1)), (('out', 1), ('out', 1), ('out', 1))))
+    >>> CHAIN = ('fgw', (('is', 'f', 5, 5), ('plus', 'g', 'f', 2), ('is', 'w', 0, 0), ('within', 'w', 'f', None, None), ('within', 'w', 'g', None, None)))
+    >>> [analysed(CHAIN, (LATER, LATER, 'w'), 'wgf'), walks_of(CHAIN, (LATER, LATER, 'w'), 'wgf'), analysed(CHAIN, (LATER, LATER, 'w'), 'fgw')]
+    [((5, 5), (7, 7), (0, None)), 3, ((5, 5), (7, 7), (0, 7))]
+
+    >>> from endclimbs.lives import Live
+    >>> live = Live(CHAIN, (LATER, LATER, 'w'))
+    >>> [live.walk('wgf'), live.walk('wgf'), live.phases_now, live.open_names(), live.visit('w'), live['w'], live.barred(('back', 'w'))]
+    ['fw', 'gw', ((0, 0), (0, 0), (0, 1)), 'w', 'w', (0, None), None]
+    >>> [live.back('w'), live['w'], live.open_names(), live.undo(), live['w'], len(live)]
+    ['w', (0, 7), '', ('back', 'w'), (0, None), 3]
 """
 
 

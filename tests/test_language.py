@@ -48,9 +48,20 @@ INTERFACE = {
     'choosing': 'least_marks delayed fitting_delays',
     'joint': 'joint_states',
     'alikeness': 'are_alike parting_row',
+    'overtaking': 'never_above above_row above_paper',
+    'overchecker': 'lets_above',
+    'onsteps': 'never_above_on_steps above_program',
+    'duels': 'Duel',
+    'analyses': 'analysed walks_of all_results is_closed least_ranges',
+    'liveevents': 'is_event',
+    'lives': 'Live',
+    'replaying': 'is_log replayed',
+    'eventtexts': 'event_line log_lines',
+    'eventreadings': 'read_event read_log',
+    'desk': 'Desk',
 }
 
-# The parameters of the functions of stages 6 to 14 and 17, as the document writes them.
+# The parameters of the functions of stages 6 to 20, as the document writes them.
 PARAMETERS = '''spots_of(rule) steady_spots(rule) rests(rule) rests_from(rule, first) rests_on_steps(rule) ring_of(rule)
     rest_paper(rule) lets_rest(rule, thing) incoming(program, x) played(rule, program, *, most=200)
     end_on(rule, program, *, most=200) program_of(rule, row) restless_program(rule) most_rounds(rule, first)
@@ -59,7 +70,21 @@ PARAMETERS = '''spots_of(rule) steady_spots(rule) rests(rule) rests_from(rule, f
     narrowed(rule, program, back) is_safe(rule, back, span) unsafe_program(rule, back, span)
     least_marks(rule, first, most) delayed(rule, count) fitting_delays(rule, first, most)
     joint_states(rule, other, span) are_alike(rule, other) parting_row(rule, other) is_range(thing) is_step(thing)
-    lets_names(thing) incoming_ranges(program, ranges, name)'''
+    lets_names(thing) incoming_ranges(program, ranges, name) never_above(rule, other, span) above_row(rule, other, span)
+    above_paper(rule, other, span) lets_above(rule, other, span, thing) never_above_on_steps(rule, other, span)
+    above_program(rule, other, span) analysed(program, widening, order, *, most=60)
+    walks_of(program, widening, order, *, most=60) all_results(program, widening) is_closed(program, ranges)
+    least_ranges(program, *, most=60) is_event(thing) is_log(thing) replayed(log) event_line(event) log_lines(log)
+    read_event(text) read_log(lines)'''
+
+# The parameters of the methods of Live, Desk and Duel, behind self.
+METHODS = {
+    'duels': '__init__(rule, other) __call__(row) turned()',
+    'lives': '''__init__(program, widening) visit(name) walk(names) back(name) add_step(step) drop_step(k)
+        set_rule(side, rule) go(event) __call__(event) barred(event) coming(name) open_names() sheet() tried(*events)
+        undo() do_all(*events, keep=False) counts() log()''',
+    'desk': '__init__() say(row) counts()',
+}
 
 
 def parsed(path):
@@ -207,9 +232,18 @@ class LanguageTest(unittest.TestCase):
                 if isinstance(node, ast.FunctionDef):
                     found[node.name] = ast.unparse(node.args)
         due = re.findall(r'(\w+)\(([^)]*)\)', PARAMETERS)
-        self.assertEqual(len(due), 35)
+        self.assertEqual(len(due), 53)
         for name, parameters in due:
             self.assertEqual(found[name], parameters)
+
+    def test_the_parameters_of_the_methods(self):
+        for module, methods in METHODS.items():
+            found = {}
+            for node in ast.walk(parsed(FOLDER / f'{module}.py')):
+                if isinstance(node, ast.ClassDef):
+                    found = {inner.name: ast.unparse(inner.args) for inner in node.body if isinstance(inner, ast.FunctionDef)}
+            for name, parameters in re.findall(r'(\w+)\(([^)]*)\)', methods):
+                self.assertEqual(found[name], f'self, {parameters}' if parameters else 'self')
 
 
 if __name__ == '__main__':
