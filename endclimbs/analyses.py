@@ -7,7 +7,7 @@ from endclimbs.kinds import is_number, is_rule, is_tuple_of
 from endclimbs.programs import LETTERS, incoming_ranges, is_ranges, join_of
 
 MANY_WALKS = 60
-# By take without marks a range becomes the join with what comes in, as that of a name that is not widened.
+# A rule for analyses in which no name is widened, so that it is never asked.
 TAKING = ((), ((("take", 0), ("take", 0), ("take", 0)),))
 
 

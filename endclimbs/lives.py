@@ -152,7 +152,6 @@ class Live:
 
     def coming(self, name):
         """What comes in at a name now, None for nothing."""
-        require(self._is_name(name), "name")
         return incoming_ranges(self._standing[0], self._standing[2], name)
 
     def open_names(self):

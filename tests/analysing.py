@@ -148,10 +148,10 @@ def drawn_range(source, ends=(None, -9, -4, -1, 0, 1, 3, 5, 8)):
     return (high, low) if low is not None and high is not None and low > high else (low, high)
 
 
-def drawn_step(source, letters):
-    """A step with some of the letters; those that make ranges grow are more likely."""
-    a, b = source.choice(letters), source.choice(letters)
-    word = source.choice(('is', 'plus', 'plus', 'plus', 'within', 'when'))
+def drawn_step(source, letters, name=None):
+    """A step with some of the letters, at this one if there is one; those that make ranges grow are more likely."""
+    a, b = name or source.choice(letters), source.choice(letters)
+    word = source.choice(('is', 'plus', 'plus', 'plus', 'within', 'within', 'when'))
     if word == 'is':
         low = source.randint(-5, 5)
         return (word, a) + (drawn_range(source) if source.random() < 0.2 else (low, low + source.randint(0, 2)))
@@ -162,10 +162,11 @@ def drawn_step(source, letters):
     return (word, a, b) + drawn_range(source) + drawn_range(source)
 
 
-def drawn_program(source, most_names=4, most_steps=8):
+def drawn_program(source, most_names=4, most_steps=10):
+    """A program in which something can come in at each name, mostly."""
     names = ''.join(source.sample(ALPHABET, source.randint(1, most_names)))
-    steps = [('is', names[0], 0, source.randint(0, 2))]
-    steps += [drawn_step(source, names) for _ in range(source.randint(0, most_steps - 1))]
+    steps = [('is', names[0], 0, source.randint(0, 2))] + [drawn_step(source, names, name) for name in names]
+    steps += [drawn_step(source, names) for _ in range(source.randint(0, most_steps - len(steps)))]
     source.shuffle(steps)
     return names, tuple(steps)
 
@@ -219,4 +220,5 @@ NO_EVENTS = (None, True, 0, 'visit', 'visit a', (), [], ('visit',), ('visit', 'a
              ('rule', 'Low', RULE), ('rule', '', RULE), ('rule', None, RULE), ('rule', ('low',), RULE), ('rule', 'low', list(RULE)),
              ('rule', 'low', RULE, 0), ('rule', 'low', ((), ())), ('rule', 'low', ((True,), RULE[1])), ('rule', RULE, 'low'),
              ('rule', 'low', ((), ((('take', 1),) * 3,))), ('rule', 'low', ((), ((('take', False),) * 3,))), ('undo',), ('undo', ''),
-             ('live', CHAIN, WIDE), ('low', RULE), ('events', ''))
+             ('live', CHAIN, WIDE), ('low', RULE), ('events', ''), ('rules', 'low', RULE), (None, 'low', RULE), ('low', 'low', RULE),
+             ('steps', ('is', 'a', 0, 0)), (True, ('is', 'a', 0, 0)), ('is', ('is', 'a', 0, 0)), ('drops', 0), (None, 0))

@@ -11,7 +11,7 @@ from endclimbs.choosing import delayed
 from endclimbs.errors import NotUsable, Restless
 from endclimbs.resting import rests
 from endclimbs.rules import Rule
-from samples import CAREFUL, JUMPY, ODD, TENS, WAITER, Case
+from samples import CAREFUL, JUMPY, ODD, TENS, Case
 
 FAR = 10 ** 40
 TAKE = ((), ((('take', 0),) * 3,))
@@ -48,8 +48,8 @@ class ComparedTest(AnalysisCase):
             due = self.judge(program, widening, order)
             walks = due and due[0]
             seen[walks] = seen.get(walks, 0) + 1
-        self.assertTrue({None, 1, 2, 3, 4, 5} <= set(seen))
-        self.assertGreater(min(seen[None], seen[3], seen[4]), 20)
+        self.assertTrue({None, 1, 2, 3, 4, 5, 6} <= set(seen))
+        self.assertGreater(min(seen[None], seen[3], seen[4]), 40)
 
     def test_all_orders(self):
         unlike = without = 0
@@ -63,7 +63,7 @@ class ComparedTest(AnalysisCase):
             unlike += len(set(told[k][1] for k in range(len(told)))) > 1
             without += None in [result for _, result in told]
             self.assertIsInstance(told, tuple)
-        self.assertGreater(min(unlike, without), 5)
+        self.assertGreater(min(unlike, without), 10)
 
     def test_closed(self):
         seen = {True: 0, False: 0}
@@ -75,7 +75,7 @@ class ComparedTest(AnalysisCase):
             due = slow.open_names() == ''
             seen[due] += 1
             self.same(is_closed(program, slow.now()[0]), due)
-        self.assertGreater(min(seen.values()), 60)
+        self.assertGreater(min(seen.values()), 40)
 
     def test_least_ranges(self):
         seen = {None: 0}

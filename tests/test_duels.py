@@ -10,7 +10,7 @@ from endclimbs.errors import InvalidPaper, NotRising, NotUsable
 from endclimbs.kinds import is_row
 from endclimbs.rules import Rule
 from playing import made_rows, states_by_words
-from samples import CAREFUL, JUMPY, ODD, PHASE, RULES, TENS, WAITER, Case
+from samples import CAREFUL, JUMPY, ODD, PHASE, RULES, WAITER, Case
 from searching import bent_rules
 from twins import WAYS, changed
 

@@ -377,7 +377,7 @@ class LogFaultTest(Case):
         words = ['', 'x', '-', '0', '2', '-5', 'a', 'ab', 'step', 'low', 'live', PLAIN, '5,9', '9,5']
         seen = {}
         for _ in range(1500):
-            program = drawn_program(source, most_steps=3)
+            program = drawn_program(source, most_steps=6)
             log = (('live', program, drawn_widening(source, program[0])),)
             log += tuple(drawn_event(source, program[0]) for _ in range(source.randint(0, 3)))
             lines = log_lines(log)

@@ -210,6 +210,23 @@ class LanguageTest(unittest.TestCase):
                 if isinstance(node, ast.Compare) and isinstance(node.ops[0], (ast.Is, ast.IsNot)):
                     self.assertIn(ast.unparse(node.comparators[0]), ('None', 'True', 'False'))
 
+    def test_what_stands_in_a_finally(self):
+        for _, tree in self.trees():
+            for node in ast.walk(tree):
+                for inner in node.finalbody if isinstance(node, ast.Try) else []:
+                    self.assertIsInstance(inner, ast.Assign)
+                    self.assertIsInstance(inner.value, (ast.Name, ast.Attribute))
+
+    def test_signs_change_nothing_but_by_an_item(self):
+        for _, tree in self.trees():
+            for node in ast.walk(tree):
+                name = node.name.strip('_') if isinstance(node, ast.FunctionDef) and node.name.startswith('__') else 'init'
+                if name not in ('init', 'call', 'setitem'):
+                    for inner in ast.walk(node):
+                        self.assertNotIsInstance(inner, (ast.AugAssign, ast.Delete))
+                        if isinstance(inner, ast.Attribute):
+                            self.assertIsInstance(inner.ctx, ast.Load)
+
     def test_words_that_do_not_occur(self):
         for path, tree in self.trees():
             for node in ast.walk(tree):

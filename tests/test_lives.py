@@ -370,6 +370,10 @@ class AskedTest(LiveCase):
         for _ in range(12):
             live.visit('a')
         self.same(live.sheet(), ['a 0..11         0 11'])
+        live = Live(('a', (('is', 'a', 0, 0), ('plus', 'a', 'a', -1))), (((), many), OUT, 'a'))
+        for _ in range(12):
+            live.visit('a')
+        self.same(live.sheet(), ['a -11..0       11  0'])
         told = live.sheet()
         told.append('x')
         self.same(len(live.sheet()), 1)

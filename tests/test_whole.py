@@ -108,7 +108,7 @@ class SidesTest(Case):
         source = random.Random(42)
         seen = 0
         for k in range(150):
-            one, two = drawn_program(source, 3, 5), drawn_program(source, 2, 5)
+            one, two = drawn_program(source, 3, 6), drawn_program(source, 2, 6)
             letters = {letter: other for letter, other in zip('abcdefghijklmnopqrstuvwxyz', 'nopqrstuvwxyzabcdefghijklm')}
             if set(one[0]) & set(two[0]):
                 two = renamed(two, letters)
