@@ -123,12 +123,17 @@ class Live:
         """Whether any value is a name of the program."""
         return is_letter(thing) and thing in self._names
 
+    def _range_of(self, name):
+        """The range of a name of the program, None for no range."""
+        # An operator calls nothing that the object holds: so the place is found without the method index.
+        return [held for one, held in zip(self._names, self._standing[2]) if one == name][0]
+
     def __getitem__(self, at):
         require(self._is_name(at), "name")
-        return self._standing[2][self._names.index(at)]
+        return self._range_of(at)
 
     def __contains__(self, thing):
-        return self._is_name(thing) and self._standing[2][self._names.index(thing)] is not None
+        return self._is_name(thing) and self._range_of(thing) is not None
 
     def __iter__(self):
         return iter(self._names)

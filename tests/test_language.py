@@ -22,6 +22,9 @@ BARRED = re.compile(r'\b(typing|typing_extensions|enum|Enum|IntEnum|StrEnum|Flag
 UNUSED_NAMES = {'register', 'mro', 'elements', 'open', 'input', 'law', 'version_info', 'with_traceback', 'add_note',
                 'map', 'filter', 'hash', 'id', 'eval', 'exec', 'os', 'gc', 'vars', 'dir', 'help', 'exit', 'quit'}
 NODES_BARRED = (ast.Global, ast.AsyncFunctionDef, ast.Await, ast.GeneratorExp, ast.Set, ast.SetComp, ast.Lambda)
+# The methods that modify a list, a dict or a set.
+CHANGING = ('add', 'append', 'clear', 'discard', 'extend', 'insert', 'pop', 'remove', 'reverse', 'setdefault', 'sort',
+            'update')
 # The package has signs of order that raise; so sorted, min and max could only take plain numbers, and are not used.
 CALLS_BARRED = {'sorted', 'min', 'max', 'getattr', 'setattr', 'hasattr', 'print'}
 
@@ -106,6 +109,53 @@ def names_bound(tree):
             yield node.name
         elif isinstance(node, ast.alias):
             yield node.asname or node.name
+
+
+def definitions():
+    """The functions, the methods and the properties of the package, each with what is defined under its name."""
+    functions, methods, properties = {}, {}, {}
+    for path in FILES:
+        for node in parsed(path).body:
+            if isinstance(node, ast.FunctionDef):
+                functions.setdefault(node.name, []).append(node)
+            for inner in node.body if isinstance(node, ast.ClassDef) else []:
+                if isinstance(inner, ast.FunctionDef):
+                    # A class is called by its own name.
+                    name = node.name if inner.name == '__init__' else inner.name
+                    is_property = 'property' in map(ast.unparse, inner.decorator_list)
+                    (properties if is_property else methods).setdefault(name, []).append(inner)
+    return functions, methods, properties
+
+
+def name_called(call):
+    """The last name of what a call calls, None if it is none."""
+    return getattr(call.func, 'id', getattr(call.func, 'attr', None))
+
+
+def run_by_signs():
+    """What the double-underscore methods that change nothing and the properties run, through what they call too."""
+    functions, methods, properties = definitions()
+    found = [node for nodes in properties.values() for node in nodes]
+    for name, nodes in methods.items():
+        if name.startswith('__') and name not in ('__init__', '__call__', '__setitem__'):
+            found += nodes
+    for node in found:
+        for call in ast.walk(node):
+            if isinstance(call, ast.Call):
+                name = name_called(call)
+                found += [inner for inner in functions.get(name, []) + methods.get(name, []) if inner not in found]
+    return found
+
+
+def made_here(node):
+    """The variables of a function that are only ever assigned a list or dict which it makes."""
+    made = [target for inner in ast.walk(node) if isinstance(inner, ast.Assign) for target in inner.targets
+            if isinstance(inner.value, (ast.List, ast.Dict, ast.ListComp, ast.DictComp))]
+    other = {inner.arg for inner in ast.walk(node) if isinstance(inner, ast.arg)}
+    for inner in ast.walk(node):
+        if isinstance(inner, ast.Name) and isinstance(inner.ctx, ast.Store) and inner not in made:
+            other.add(inner.id)
+    return {target.id for target in made if isinstance(target, ast.Name)} - other
 
 
 class LanguageTest(unittest.TestCase):
@@ -226,6 +276,36 @@ class LanguageTest(unittest.TestCase):
                         self.assertNotIsInstance(inner, (ast.AugAssign, ast.Delete))
                         if isinstance(inner, ast.Attribute):
                             self.assertIsInstance(inner.ctx, ast.Load)
+
+    def test_signs_call_nothing_that_an_object_holds(self):
+        functions, methods, _ = definitions()
+        attributes = {inner.attr for _, tree in self.trees() for inner in ast.walk(tree)
+                      if isinstance(inner, ast.Attribute) and isinstance(inner.ctx, ast.Store)}
+        self.assertIn('index', attributes)
+        for node in run_by_signs():
+            own = set(names_bound(node)) - {node.name}
+            for call in ast.walk(node):
+                if isinstance(call, ast.Call):
+                    # What is called is a function, a class or a method by its name, which no attribute has.
+                    self.assertIsInstance(call.func, (ast.Name, ast.Attribute), node.name)
+                    self.assertNotIn(name_called(call), attributes, node.name)
+                    if isinstance(call.func, ast.Name):
+                        self.assertNotIn(call.func.id, own, node.name)
+                        self.assertIn(call.func.id, BUILTINS | set(functions) | set(methods), node.name)
+
+    def test_what_signs_run_changes_only_what_it_makes(self):
+        run = run_by_signs()
+        self.assertGreater(len(run), 90)
+        for node in run:
+            made = made_here(node)
+            for inner in ast.walk(node):
+                self.assertNotIsInstance(inner, (ast.AugAssign, ast.Delete, ast.Global, ast.Nonlocal), node.name)
+                if isinstance(inner, ast.Attribute) and node.name != '__init__':
+                    self.assertIsInstance(inner.ctx, ast.Load, node.name)
+                if isinstance(inner, ast.Subscript) and isinstance(inner.ctx, ast.Store):
+                    self.assertIn(ast.unparse(inner.value), made, node.name)
+                if isinstance(inner, ast.Call) and name_called(inner) in CHANGING:
+                    self.assertIn(ast.unparse(inner.func.value), made, node.name)
 
     def test_words_that_do_not_occur(self):
         for path, tree in self.trees():

@@ -352,6 +352,16 @@ class AskedTest(LiveCase):
         live.walk('gf')
         self.same([name in live for name in 'fgw'], [True, False, False])
 
+    def test_the_range_of_each_name(self):
+        names = 'zabyc'
+        live = Live((names, tuple(('is', name, k, 2 * k) for k, name in enumerate(names))), (OUT, OUT, ''))
+        for gone in range(len(names) + 1):
+            self.same([live[name] for name in names], [(k, 2 * k) if k < gone else None for k in range(len(names))])
+            self.same([name in live for name in names], [k < gone for k in range(len(names))])
+            self.same(live.ranges_now, tuple(live[name] for name in live))
+            if gone < len(names):
+                live.visit(names[gone])
+
     def test_iteration(self):
         live = Live(('zab', ()), (OUT, OUT, ''))
         live.visit('a')
